@@ -144,8 +144,9 @@ func TestSortOfAllLists(t *testing.T) {
 				want = append(want, s)
 			}
 		}
-		got := rows.Sort(l)
-		if !slices.Equal(got, want) || !rows.Is(got) || rows.Is(l) != slices.Equal(l, want) {
+		in := roomy(l)
+		got := rows.Sort(in)
+		if !slices.Equal(got, want) || !rows.Is(got) || rows.Is(in) != slices.Equal(l, want) || !whole(in, l) {
 			t.Errorf("P1.1: Sort(%q): %q", l, got)
 		}
 	}
@@ -287,12 +288,17 @@ func TestWrongRows(t *testing.T) {
 	for _, x := range all {
 		for _, y := range all {
 			a, b := roomy(x), roomy(y)
+			c, d := slices.Clone(x), slices.Clone(y) // x, y themselves are never handed in: they say what was there
 			rows.Is(a)
-			if rows.Within(a, b) != rows.Within(x, y) || rows.Has(a, "a") != rows.Has(x, "a") {
+			if rows.Within(a, b) != rows.Within(c, d) || rows.Has(a, "a") != rows.Has(c, "a") {
 				t.Fatalf("P1.1: %q, %q: told two ways", x, y)
 			}
 			for name, call := range calls(a, b, "a") {
-				if !slices.Equal(call(), calls(x, y, "a")[name]()) {
+				got, again := call(), calls(c, d, "a")[name]()
+				if !whole(a, x) || !whole(b, y) {
+					t.Fatalf("P1.1: %s changed %q, %q: %q, %q", name, x, y, a[:len(a)+4], b[:len(b)+4])
+				}
+				if !slices.Equal(got, again) {
 					t.Fatalf("P1.1: %s of %q, %q: told two ways", name, x, y)
 				}
 			}
