@@ -7,6 +7,7 @@ import (
 
 	"trefoil/api"
 	"trefoil/clock"
+	"trefoil/kit"
 )
 
 const (
@@ -103,21 +104,6 @@ func many(n int) []api.Tick {
 	return c
 }
 
-// lists gives every list of at most n of these ticks, in whatever order, however often.
-func lists(from []api.Tick, n int) [][]api.Tick {
-	out := [][]api.Tick{nil}
-	for begin := 0; n > 0; n-- {
-		end := len(out)
-		for _, head := range out[begin:end] {
-			for _, t := range from {
-				out = append(out, append(slices.Clone(head), t))
-			}
-		}
-		begin = end
-	}
-	return out
-}
-
 // odd are ticks of which some are wrong alone, and some beside one another.
 func odd() []api.Tick {
 	return []api.Tick{{Who: -1, N: 2}, {Who: 3, N: 0}, {Who: 3, N: 1}, {Who: 3, N: top}, {Who: 4, N: 1}, {Who: maxWho + 1, N: 2}}
@@ -208,7 +194,7 @@ func TestIsOfMany(t *testing.T) {
 // TestIsOfLists holds Is of every short list against its words, one by one.
 func TestIsOfLists(t *testing.T) {
 	from := append(odd(), api.Tick{Who: 0, N: 1}, api.Tick{Who: maxWho, N: 1})
-	for _, c := range lists(from, 4) {
+	for _, c := range kit.Lists(from, 4) {
 		want := true
 		for i, x := range c {
 			want = want && 0 <= x.Who && x.Who <= maxWho && x.N != 0
@@ -463,7 +449,7 @@ func TestExample(t *testing.T) {
 
 // TestSameOfLists holds Same of every two short lists, clocks or not, against a look at each part.
 func TestSameOfLists(t *testing.T) {
-	all := lists(odd(), 3)
+	all := kit.Lists(odd(), 3)
 	for i, a := range all {
 		for j, b := range all {
 			if got := clock.Same(roomy(a), b); got != (i == j) {
@@ -631,7 +617,7 @@ func tell(a, b []api.Tick, who int) told {
 
 // TestWrongClocks: whatever lists: each call ends, none panics, what is handed in stays, and the same makes the same.
 func TestWrongClocks(t *testing.T) {
-	all := lists(odd(), 3)
+	all := kit.Lists(odd(), 3)
 	for i, x := range all {
 		for j, y := range all {
 			a, b := roomy(x), roomy(y)

@@ -5,6 +5,7 @@ import (
 	"slices"
 	"testing"
 
+	"trefoil/kit"
 	"trefoil/rows"
 )
 
@@ -32,21 +33,6 @@ func subset(l []string, bits int) []string {
 		if bits>>i&1 == 1 {
 			out = append(out, s)
 		}
-	}
-	return out
-}
-
-// lists gives every list of at most n of l's texts, in whatever order, however often.
-func lists(l []string, n int) [][]string {
-	out := [][]string{nil}
-	for from := 0; n > 0; n-- {
-		to := len(out)
-		for _, head := range out[from:to] {
-			for _, s := range l {
-				out = append(out, append(slices.Clone(head), s))
-			}
-		}
-		from = to
 	}
 	return out
 }
@@ -137,7 +123,7 @@ func TestSortOfMany(t *testing.T) {
 
 func TestSortOfAllLists(t *testing.T) {
 	from := []string{"", "a", "ab", "\xff"}
-	for _, l := range lists(from, 5) {
+	for _, l := range kit.Lists(from, 5) {
 		var want []string
 		for _, s := range from {
 			if slices.Contains(l, s) {
@@ -284,7 +270,7 @@ func calls(a, b []string, s string) map[string]func() []string {
 
 // TestWrongRows: rows that don't rise: each call ends, none panics, what is handed in stays, and the same makes the same.
 func TestWrongRows(t *testing.T) {
-	all := lists([]string{"", "a", "\xff"}, 4)
+	all := kit.Lists([]string{"", "a", "\xff"}, 4)
 	for _, x := range all {
 		for _, y := range all {
 			a, b := roomy(x), roomy(y)

@@ -6,6 +6,7 @@ import (
 	"testing"
 
 	"trefoil/api"
+	"trefoil/kit"
 	"trefoil/schema"
 )
 
@@ -49,15 +50,6 @@ func wrongWraps() []wrap {
 func times(n int, w wrap, s api.Schema) api.Schema {
 	for range n {
 		s = w.put(s)
-	}
-	return s
-}
-
-// full answers pairs of pairs, as wide as a schema that deep can be.
-func full(depth int) api.Schema {
-	s := of(api.KMax)
-	for range depth - 1 {
-		s = of(api.KPair, s, s)
 	}
 	return s
 }
@@ -250,7 +242,7 @@ func TestDepth(t *testing.T) {
 		}
 	}
 	for depth := 1; depth <= api.MaxDepth+1; depth++ {
-		s := full(depth)
+		s := kit.Full(depth)
 		if got := schema.Deep(s); got != depth {
 			t.Errorf("P2.1: pairs of pairs, %d deep: Deep %d", depth, got)
 		}
@@ -351,7 +343,7 @@ func TestFarDeep(t *testing.T) {
 
 func TestSameSmall(t *testing.T) {
 	l := append(ordinary(), wrong()...)
-	l = append(l, api.Schema{}, full(3), full(4), of(api.KPair, full(3), full(2)), of(api.KPair, full(2), full(3)))
+	l = append(l, api.Schema{}, kit.Full(3), kit.Full(4), of(api.KPair, kit.Full(3), kit.Full(2)), of(api.KPair, kit.Full(2), kit.Full(3)))
 	for i, a := range l {
 		for k, b := range l {
 			want := alike(a, b)
@@ -425,7 +417,7 @@ func TestCause(t *testing.T) {
 		}
 	}
 	for depth := 1; depth <= api.MaxDepth+1; depth++ {
-		s := full(depth)
+		s := kit.Full(depth)
 		c := schema.Cause(s)
 		if !alike(c.In[0].In[1], s) || schema.Is(c) != (depth+2 <= api.MaxDepth) {
 			t.Errorf("P2.2: Cause of pairs of pairs, %d deep: Is %v", depth, schema.Is(c))
@@ -438,7 +430,7 @@ func TestCause(t *testing.T) {
 
 // What Cause answers shares nothing with what it was given, with another answer, or within itself.
 func TestCauseIsNew(t *testing.T) {
-	for _, s := range append(ordinary(), append(wrong(), full(5))...) {
+	for _, s := range append(ordinary(), append(wrong(), kit.Full(5))...) {
 		want := of(api.KCause, of(api.KPair, of(api.KMap, of(api.KClock)), s))
 		given := roomy(s)
 		a, b := schema.Cause(given), schema.Cause(given)
@@ -456,7 +448,7 @@ func TestCauseIsNew(t *testing.T) {
 
 func TestCauseSharesNothing(t *testing.T) {
 	shared := of(api.KMap, of(api.KMap, of(api.KClock)))
-	for _, s := range []api.Schema{of(api.KPair, shared, shared), full(4), of(api.KPair, of(api.KPair, shared, shared), shared)} {
+	for _, s := range []api.Schema{of(api.KPair, shared, shared), kit.Full(4), of(api.KPair, of(api.KPair, shared, shared), shared)} {
 		c := schema.Cause(s)
 		var lists [][]api.Schema
 		gather(c, &lists)
@@ -492,7 +484,7 @@ func TestLevelPlainAndLast(t *testing.T) {
 			t.Errorf("P2.2: Level of kind %d: %d", kind, got)
 		}
 	}
-	for _, s := range []api.Schema{of(api.KMap, set), of(api.KPair, set, set), of(api.KCause, set), full(api.MaxDepth)} {
+	for _, s := range []api.Schema{of(api.KMap, set), of(api.KPair, set, set), of(api.KCause, set), kit.Full(api.MaxDepth)} {
 		if got := schema.Level(s); got != api.LPlain {
 			t.Errorf("P2.2: Level of %v: %d", s, got)
 		}
@@ -525,7 +517,7 @@ func TestLevelCause(t *testing.T) {
 		if depth+2 <= api.MaxDepth {
 			want = api.LCause
 		}
-		if got := schema.Level(schema.Cause(full(depth))); got != want {
+		if got := schema.Level(schema.Cause(kit.Full(depth))); got != want {
 			t.Errorf("P2.2: Level of Cause of what is %d deep: %d", depth, got)
 		}
 	}
@@ -588,7 +580,7 @@ func TestLevelOfWrong(t *testing.T) {
 
 // No call changes what it is given, spare room included, or keeps it: asked again, it looks at what is there now.
 func TestGivenStays(t *testing.T) {
-	for _, s := range append(ordinary(), append(wrong(), full(4), schema.Cause(full(3)))...) {
+	for _, s := range append(ordinary(), append(wrong(), kit.Full(4), schema.Cause(kit.Full(3)))...) {
 		a, b := roomy(s), roomy(s)
 		is, deep, level := schema.Is(a), schema.Deep(a), schema.Level(a)
 		schema.Same(a, b)

@@ -8,6 +8,7 @@ import (
 	"testing"
 
 	"trefoil/api"
+	"trefoil/kit"
 	"trefoil/schema"
 	"trefoil/value"
 )
@@ -16,10 +17,10 @@ import (
 const farDeep = 1 << 16
 
 func TestIsOfEachKind(t *testing.T) {
-	for _, c := range samples() {
-		for _, v := range c.l {
-			if !value.Is(c.s, v) || !value.Is(roomySchema(c.s), roomy(v)) {
-				t.Errorf("P4.1: %v is no value of %v", v, c.s)
+	for _, c := range kit.Samples() {
+		for _, v := range c.Values {
+			if !value.Is(c.Schema, v) || !value.Is(kit.RoomySchema(c.Schema), kit.Roomy(v)) {
+				t.Errorf("P4.1: %v is no value of %v", v, c.Schema)
 			}
 		}
 	}
@@ -114,13 +115,13 @@ func TestIsOfVersions(t *testing.T) {
 func TestIsOfAllVersions(t *testing.T) {
 	s := of(api.KCause, of(api.KOr))
 	few := [][]api.Tick{nil, ticks(1, 0)}
-	for _, l := range lists([]api.Tick{{Who: 1, N: 1}, {Who: 1, N: 2}, {Who: 2, N: 1}, {Who: 2, N: 2}, {Who: 3, N: 1}}, 2) {
+	for _, l := range kit.Lists([]api.Tick{{Who: 1, N: 1}, {Who: 1, N: 2}, {Who: 2, N: 1}, {Who: 2, N: 2}, {Who: 3, N: 1}}, 2) {
 		if properClock(l) && len(l) > 0 {
 			few = append(few, l)
 		}
 	}
 	right := 0
-	for _, l := range lists(few, 3) {
+	for _, l := range kit.Lists(few, 3) {
 		v := api.Value{C: l, V: make([]api.Value, len(l))}
 		want := proper(s, v)
 		if got := value.Is(s, v); got != want {
@@ -144,8 +145,8 @@ func TestIsOfMany(t *testing.T) {
 			c[i], long[i] = ticks(i, 1), api.Tick{Who: i, N: 1}
 		}
 		for name, got := range map[string]bool{
-			"texts":             value.Is(of(api.KSet), set(many(n)...)),
-			"keys":              value.Is(of(api.KMap, of(api.KMax)), api.Value{S: many(n), V: ones}),
+			"texts":             value.Is(of(api.KSet), set(kit.Texts(0, n)...)),
+			"keys":              value.Is(of(api.KMap, of(api.KMax)), api.Value{S: kit.Texts(0, n), V: ones}),
 			"versions":          value.Is(of(api.KCause, of(api.KMax)), api.Value{C: c, V: ones}),
 			"ticks":             n == 0 || value.Is(of(api.KClock), clocks(long)),
 			"a version's ticks": value.Is(of(api.KCause, of(api.KMax)), api.Value{C: [][]api.Tick{long}, V: []api.Value{none}}),
@@ -161,7 +162,7 @@ func TestIsOfMany(t *testing.T) {
 func TestIsOfOneAmongMany(t *testing.T) {
 	sets, numbers, causes := of(api.KSet), of(api.KMap, of(api.KMax)), of(api.KCause, of(api.KMax))
 	for i := range api.MaxItems {
-		l, ones, c := many(api.MaxItems), slices.Repeat([]api.Value{num(1)}, api.MaxItems), make([][]api.Tick, api.MaxItems)
+		l, ones, c := kit.Texts(0, api.MaxItems), slices.Repeat([]api.Value{num(1)}, api.MaxItems), make([][]api.Tick, api.MaxItems)
 		for k := range c {
 			c[k] = ticks(k+1, 1)
 		}
@@ -172,7 +173,7 @@ func TestIsOfOneAmongMany(t *testing.T) {
 		for _, wrong := range []api.Value{none, {M: 1}, set("a"), pair(none, none)} {
 			was := ones[i]
 			ones[i] = wrong
-			if value.Is(numbers, api.Value{S: many(api.MaxItems), V: ones}) || value.Is(causes, api.Value{C: c, V: ones}) != (written(wrong) == written(none)) {
+			if value.Is(numbers, api.Value{S: kit.Texts(0, api.MaxItems), V: ones}) || value.Is(causes, api.Value{C: c, V: ones}) != (kit.Written(wrong) == kit.Written(none)) {
 				t.Errorf("P4.1: value %d is %v", i, wrong)
 			}
 			ones[i] = was
@@ -196,8 +197,8 @@ func TestIsOfOneAmongMany(t *testing.T) {
 func TestForeignParts(t *testing.T) {
 	has := map[int]string{api.KMax: "N", api.KOr: "N", api.KSet: "S", api.KMap: "SV", api.KPair: "V", api.KLast: "NMS", api.KClock: "C", api.KCause: "CV"}
 	tried := map[int]int{}
-	for _, c := range samples() {
-		for _, v := range c.l {
+	for _, c := range kit.Samples() {
+		for _, v := range c.Values {
 			for name, add := range map[string][]func(*api.Value){
 				"N": {func(v *api.Value) { v.N = 1 }, func(v *api.Value) { v.N = math.MaxUint64 }},
 				"M": {func(v *api.Value) { v.M = 1 }, func(v *api.Value) { v.M = 1 << 63 }},
@@ -205,15 +206,15 @@ func TestForeignParts(t *testing.T) {
 				"C": {func(v *api.Value) { v.C = [][]api.Tick{nil} }, func(v *api.Value) { v.C = [][]api.Tick{ticks(1, 1)} }},
 				"V": {func(v *api.Value) { v.V = []api.Value{none} }, func(v *api.Value) { v.V = []api.Value{num(1)} }},
 			} {
-				if strings.Contains(has[c.s.Kind], name) {
+				if strings.Contains(has[c.Schema.Kind], name) {
 					continue
 				}
-				tried[c.s.Kind]++
+				tried[c.Schema.Kind]++
 				for i, f := range add {
 					wrong := v
 					f(&wrong)
-					if value.Is(c.s, wrong) || value.None(c.s, wrong) {
-						t.Errorf("P4.1: kind %d with %s, %d: %v", c.s.Kind, name, i, wrong)
+					if value.Is(c.Schema, wrong) || value.None(c.Schema, wrong) {
+						t.Errorf("P4.1: kind %d with %s, %d: %v", c.Schema.Kind, name, i, wrong)
 					}
 				}
 			}
@@ -229,77 +230,60 @@ func TestIsOfSmall(t *testing.T) {
 	all := small()
 	texts := make([]string, len(all))
 	for i, v := range all {
-		texts[i] = written(v)
+		texts[i] = kit.Written(v)
 	}
-	for _, c := range append(samples(), sample{s: of(api.KPair, of(api.KMax), of(api.KMax))}, sample{s: of(api.KCause, of(api.KMax))}) {
-		right, bottom := 0, written(nothing(c.s))
+	for _, c := range append(kit.Samples(), kit.Sample{Schema: of(api.KPair, of(api.KMax), of(api.KMax))}, kit.Sample{Schema: of(api.KCause, of(api.KMax))}) {
+		right, bottom := 0, kit.Written(nothing(c.Schema))
 		for i, v := range all {
-			want := proper(c.s, v)
-			if got := value.Is(c.s, v); got != want {
-				t.Fatalf("P4.1: Is(%v, %v): %v", c.s, v, got)
+			want := proper(c.Schema, v)
+			if got := value.Is(c.Schema, v); got != want {
+				t.Fatalf("P4.1: Is(%v, %v): %v", c.Schema, v, got)
 			}
-			if got := value.None(c.s, v); got != (texts[i] == bottom) {
-				t.Fatalf("P4.2: None(%v, %v): %v", c.s, v, got)
+			if got := value.None(c.Schema, v); got != (texts[i] == bottom) {
+				t.Fatalf("P4.2: None(%v, %v): %v", c.Schema, v, got)
 			}
 			if want {
 				right++
 			}
 		}
-		if right == 0 && c.s.Kind != api.KPair {
-			t.Errorf("P4.1: no value of %v was tried", c.s)
+		if right == 0 && c.Schema.Kind != api.KPair {
+			t.Errorf("P4.1: no value of %v was tried", c.Schema)
 		}
 	}
 }
 
 // TestIsOfOthers: values of one schema, held against each other one.
 func TestIsOfOthers(t *testing.T) {
-	for _, c := range samples() {
-		for _, o := range samples() {
-			for _, v := range o.l {
-				if got, want := value.Is(c.s, v), proper(c.s, v); got != want {
-					t.Errorf("P4.1: Is(%v, %v), a value of %v: %v", c.s, v, o.s, got)
+	for _, c := range kit.Samples() {
+		for _, o := range kit.Samples() {
+			for _, v := range o.Values {
+				if got, want := value.Is(c.Schema, v), proper(c.Schema, v); got != want {
+					t.Errorf("P4.1: Is(%v, %v), a value of %v: %v", c.Schema, v, o.Schema, got)
 				}
-				if got, want := value.None(c.s, v), written(v) == written(nothing(c.s)); got != want {
-					t.Errorf("P4.2: None(%v, %v), a value of %v: %v", c.s, v, o.s, got)
+				if got, want := value.None(c.Schema, v), kit.Written(v) == kit.Written(nothing(c.Schema)); got != want {
+					t.Errorf("P4.2: None(%v, %v), a value of %v: %v", c.Schema, v, o.Schema, got)
 				}
 			}
 		}
 	}
 }
 
-// A wrap puts a schema, and a value, into others.
-type wrap struct {
-	name   string
-	schema func(api.Schema) api.Schema
-	value  func(api.Value) api.Value
-}
-
-func wraps() []wrap {
-	or := of(api.KOr)
-	return []wrap{
-		{"a map", func(s api.Schema) api.Schema { return of(api.KMap, s) }, func(v api.Value) api.Value { return keyed("k", v) }},
-		{"a pair's first", func(s api.Schema) api.Schema { return of(api.KPair, s, or) }, func(v api.Value) api.Value { return pair(v, num(1)) }},
-		{"a pair's second", func(s api.Schema) api.Schema { return of(api.KPair, or, s) }, func(v api.Value) api.Value { return pair(none, v) }},
-		{"a cause", func(s api.Schema) api.Schema { return of(api.KCause, s) }, func(v api.Value) api.Value { return cause(version{ticks(1, 1), v}) }},
-	}
-}
-
 // TestIsDeepInside: what is right or wrong is so however deep it lies, as long as the schema is one.
 func TestIsDeepInside(t *testing.T) {
-	for _, c := range samples() {
-		wrong := []api.Value{{N: 2, M: 3}, last(1, 1, "a", "b"), pair(none), keyed("b,a", num(1), num(1)), clocks(nil), cause(version{ticks(1, 0), none})}
-		for _, w := range wraps() {
-			s, good := c.s, c.l[len(c.l)-1]
+	for _, c := range kit.Samples() {
+		wrong := []api.Value{{N: 2, M: 3}, last(1, 1, "a", "b"), pair(none), keyed("b,a", num(1), num(1)), clocks(nil), cause(at(ticks(1, 0), none))}
+		for _, w := range kit.Wraps() {
+			s, good := c.Schema, c.Values[len(c.Values)-1]
 			bad := slices.Clone(wrong)
 			for range api.MaxDepth + 2 {
-				s, good = w.schema(s), w.value(good)
+				s, good = w.Schema(s), w.Value(good)
 				if got := value.Is(s, good); got != schema.Is(s) {
-					t.Errorf("P4.1: in %s: %v of %v: %v", w.name, good, s, got)
+					t.Errorf("P4.1: in %s: %v of %v: %v", w.Name, good, s, got)
 				}
 				for i := range bad {
-					bad[i] = w.value(bad[i])
+					bad[i] = w.Value(bad[i])
 					if value.Is(s, bad[i]) || value.None(s, bad[i]) && schema.Is(s) {
-						t.Errorf("P4.1: in %s: %v is one of %v", w.name, bad[i], s)
+						t.Errorf("P4.1: in %s: %v is one of %v", w.Name, bad[i], s)
 					}
 				}
 			}
@@ -317,8 +301,8 @@ func TestIsBesideRight(t *testing.T) {
 		}{
 			{of(api.KMap, max), keyed("a,b", num(1), wrong)}, {of(api.KMap, max), keyed("a,b", wrong, num(1))},
 			{of(api.KPair, max, max), pair(none, wrong)}, {of(api.KPair, max, max), pair(wrong, none)},
-			{of(api.KCause, max), cause(version{ticks(1, 1), none}, version{ticks(2, 1), wrong})}, {of(api.KCause, max), cause(version{ticks(1, 1), wrong}, version{ticks(2, 1), none})},
-			{schema.Cause(max), cause(version{ticks(1, 1), pair(keyed("a", wrong), num(1))})}, {schema.Cause(max), cause(version{ticks(1, 1), pair(none, wrong)})},
+			{of(api.KCause, max), cause(at(ticks(1, 1), none), at(ticks(2, 1), wrong))}, {of(api.KCause, max), cause(at(ticks(1, 1), wrong), at(ticks(2, 1), none))},
+			{schema.Cause(max), cause(at(ticks(1, 1), pair(keyed("a", wrong), num(1))))}, {schema.Cause(max), cause(at(ticks(1, 1), pair(none, wrong)))},
 		} {
 			if value.Is(c.s, c.v) {
 				t.Errorf("P4.1: row %d: %v is one of %v", i, c.v, c.s)
@@ -328,31 +312,31 @@ func TestIsBesideRight(t *testing.T) {
 }
 
 func TestNoSchema(t *testing.T) {
-	values := []api.Value{none, num(1), set("a"), pair(none), pair(none, none), pair(none, none, none), keyed("a", num(1)), cause(version{ticks(1, 1), none}), last(1, 1, "a"), clocks(ticks(1, 1))}
-	for _, s := range wrongSchemas() {
+	values := []api.Value{none, num(1), set("a"), pair(none), pair(none, none), pair(none, none, none), keyed("a", num(1)), cause(at(ticks(1, 1), none)), last(1, 1, "a"), clocks(ticks(1, 1))}
+	for _, s := range kit.WrongSchemas() {
 		for _, v := range values {
-			if value.Is(s, v) || value.Is(roomySchema(s), v) {
+			if value.Is(s, v) || value.Is(kit.RoomySchema(s), v) {
 				t.Errorf("P4.1: %v is one of %v, that is no schema", v, s.Kind)
 			}
-			if got := value.None(s, v); got != (written(v) == written(none)) {
+			if got := value.None(s, v); got != (kit.Written(v) == kit.Written(none)) {
 				t.Errorf("P4.2: None of %v by %v, that is no schema: %v", v, s.Kind, got)
 			}
 		}
-		if got := value.Bottom(s); written(got) != written(none) {
+		if got := value.Bottom(s); kit.Written(got) != kit.Written(none) {
 			t.Errorf("P4.2: Bottom of %v, that is no schema: %v", s.Kind, got)
 		}
 	}
 }
 
 func TestBottom(t *testing.T) {
-	for _, c := range samples() {
-		b := value.Bottom(c.s)
-		if written(b) != written(c.l[0]) || !value.Is(c.s, b) || !value.None(c.s, b) || !value.Same(b, c.l[0]) {
-			t.Errorf("P4.2: Bottom of %v: %v", c.s, b)
+	for _, c := range kit.Samples() {
+		b := value.Bottom(c.Schema)
+		if kit.Written(b) != kit.Written(c.Values[0]) || !value.Is(c.Schema, b) || !value.None(c.Schema, b) || !value.Same(b, c.Values[0]) {
+			t.Errorf("P4.2: Bottom of %v: %v", c.Schema, b)
 		}
-		for i, v := range c.l {
-			if value.None(c.s, v) != (i == 0) || value.None(roomySchema(c.s), roomy(v)) != (i == 0) {
-				t.Errorf("P4.2: None(%v, %v): %v", c.s, v, i != 0)
+		for i, v := range c.Values {
+			if value.None(c.Schema, v) != (i == 0) || value.None(kit.RoomySchema(c.Schema), kit.Roomy(v)) != (i == 0) {
+				t.Errorf("P4.2: None(%v, %v): %v", c.Schema, v, i != 0)
 			}
 		}
 	}
@@ -360,12 +344,12 @@ func TestBottom(t *testing.T) {
 
 func TestBottomOfPairs(t *testing.T) {
 	for depth := 1; depth <= api.MaxDepth; depth++ {
-		s := full(depth)
+		s := kit.Full(depth)
 		b := value.Bottom(s)
 		if got := value.Size(b); got != 1<<depth-1 {
 			t.Errorf("P4.2: pairs %d deep: Bottom is made of %d", depth, got)
 		}
-		if !value.Is(s, b) || !value.None(s, b) || written(b) != written(nothing(s)) {
+		if !value.Is(s, b) || !value.None(s, b) || kit.Written(b) != kit.Written(nothing(s)) {
 			t.Errorf("P4.2: pairs %d deep: Bottom isn't None", depth)
 		}
 		at := &b
@@ -377,7 +361,7 @@ func TestBottomOfPairs(t *testing.T) {
 			t.Errorf("P4.2: pairs %d deep: a number makes it None", depth)
 		}
 	}
-	if got := value.Bottom(full(api.MaxDepth + 1)); written(got) != written(none) {
+	if got := value.Bottom(kit.Full(api.MaxDepth + 1)); kit.Written(got) != kit.Written(none) {
 		t.Errorf("P4.2: pairs that are too deep: Bottom is made of %d", value.Size(got))
 	}
 }
@@ -392,7 +376,7 @@ func TestExample(t *testing.T) {
 func TestSameOfSmall(t *testing.T) {
 	all := small()
 	for i, a := range all {
-		if !value.Same(a, roomy(a)) {
+		if !value.Same(a, kit.Roomy(a)) {
 			t.Fatalf("P4.2: %v isn't the same as itself", a)
 		}
 		for k := i % 997; k < len(all); k += 997 {
@@ -444,14 +428,14 @@ func others(v api.Value) []api.Value {
 func TestSameButOne(t *testing.T) {
 	all := api.Value{N: 1, M: 2, S: []string{"b", "a"}, C: [][]api.Tick{ticks(1, 1), nil, ticks(3, 0, 2, 4)}}
 	all.V = []api.Value{all, none, pair(all)}
-	for _, c := range append(samples(), sample{of(api.KMax), []api.Value{all}}) {
-		for _, v := range c.l {
+	for _, c := range append(kit.Samples(), kit.Sample{Schema: of(api.KMax), Values: []api.Value{all}}) {
+		for _, v := range c.Values {
 			for _, o := range others(v) {
-				if same := written(v) == written(o); value.Same(v, o) != same || value.Same(o, v) != same {
+				if same := kit.Written(v) == kit.Written(o); value.Same(v, o) != same || value.Same(o, v) != same {
 					t.Errorf("P4.2: Same(%v, %v): %v", v, o, !same)
 				}
-				if value.Is(c.s, o) != proper(c.s, o) {
-					t.Errorf("P4.1: Is(%v, %v): %v", c.s, o, !proper(c.s, o))
+				if value.Is(c.Schema, o) != proper(c.Schema, o) {
+					t.Errorf("P4.1: Is(%v, %v): %v", c.Schema, o, !proper(c.Schema, o))
 				}
 			}
 		}
@@ -460,12 +444,12 @@ func TestSameButOne(t *testing.T) {
 
 func TestSameOfSamples(t *testing.T) {
 	var l []api.Value
-	for _, c := range samples() {
-		l = append(l, c.l...)
+	for _, c := range kit.Samples() {
+		l = append(l, c.Values...)
 	}
 	for _, a := range l {
 		for _, b := range l {
-			if want := written(a) == written(b); value.Same(a, b) != want {
+			if want := kit.Written(a) == kit.Written(b); value.Same(a, b) != want {
 				t.Errorf("P4.2: Same(%v, %v): %v", a, b, !want)
 			}
 		}
@@ -486,14 +470,14 @@ func emptied(v api.Value) api.Value {
 
 // TestNoneAndEmpty: a list that isn't there and one of nothing are the same, all the way in.
 func TestNoneAndEmpty(t *testing.T) {
-	for _, c := range samples() {
-		for i, v := range c.l {
+	for _, c := range kit.Samples() {
+		for i, v := range c.Values {
 			e := emptied(v)
 			if !value.Same(v, e) || !value.Same(e, v) || value.Size(e) != value.Size(v) {
 				t.Errorf("P4.3: %#v and %#v aren't the same", v, e)
 			}
-			if !value.Is(c.s, e) || value.None(c.s, e) != (i == 0) {
-				t.Errorf("P4.3: %#v: Is %v, None %v", e, value.Is(c.s, e), value.None(c.s, e))
+			if !value.Is(c.Schema, e) || value.None(c.Schema, e) != (i == 0) {
+				t.Errorf("P4.3: %#v: Is %v, None %v", e, value.Is(c.Schema, e), value.None(c.Schema, e))
 			}
 		}
 	}
@@ -518,10 +502,10 @@ func TestSize(t *testing.T) {
 		{none, 1}, {num(9), 1}, {set("a", "b", "c"), 1}, {clocks(ticks(1, 1), ticks(2, 2)), 1},
 		{pair(none), 2}, {three, 3}, {pair(three, three), 7}, {pair(three, none, three), 8},
 		{keyed("a,b", num(1), three), 5}, {keyed("a,b", num(1)), 2},
-		{cause(version{nil, none}), 2}, {cause(version{ticks(1, 1), three}, version{ticks(2, 1), keyed("a", three)}), 8},
+		{cause(at(nil, none)), 2}, {cause(at(ticks(1, 1), three), at(ticks(2, 1), keyed("a", three))), 8},
 		{pair(pair(pair(pair(none)))), 5}, {pair(slices.Repeat([]api.Value{three}, 1000)...), 3001},
 	} {
-		if got := value.Size(c.v); got != c.want || value.Size(roomy(c.v)) != c.want {
+		if got := value.Size(c.v); got != c.want || value.Size(kit.Roomy(c.v)) != c.want {
 			t.Errorf("P4.2: row %d: Size %d", i, got)
 		}
 	}
@@ -543,32 +527,32 @@ func TestFarDeep(t *testing.T) {
 	if !value.Same(a, b) || value.Same(a, nest(farDeep-1, num(1))) || value.Same(a, pair(b)) || value.Same(pair(a), b) || value.Same(a, none) || value.Same(none, a) {
 		t.Error("P4.2: far deep: Same")
 	}
-	for _, c := range samples() {
-		if value.Is(c.s, a) || value.None(c.s, a) || value.Is(c.s, pair(a, a)) || value.None(c.s, pair(a, a)) {
-			t.Errorf("P4.1: far deep: a value of %v", c.s)
+	for _, c := range kit.Samples() {
+		if value.Is(c.Schema, a) || value.None(c.Schema, a) || value.Is(c.Schema, pair(a, a)) || value.None(c.Schema, pair(a, a)) {
+			t.Errorf("P4.1: far deep: a value of %v", c.Schema)
 		}
 	}
 	deep := of(api.KMax)
 	for range farDeep - 1 {
 		deep = of(api.KPair, deep, deep)
 	}
-	if value.Is(deep, a) || value.None(deep, a) || !value.None(deep, none) || written(value.Bottom(deep)) != written(none) {
+	if value.Is(deep, a) || value.None(deep, a) || !value.None(deep, none) || kit.Written(value.Bottom(deep)) != kit.Written(none) {
 		t.Error("P4.1: a schema that is far deep")
 	}
 }
 
 // TestWithoutEnd: of a value that holds itself Is and None come back, since they look no deeper than the schema is.
 func TestWithoutEnd(t *testing.T) {
-	for _, w := range wraps() {
+	for _, w := range kit.Wraps() {
 		s := of(api.KMax)
-		for schema.Is(w.schema(s)) {
-			s = w.schema(s)
+		for schema.Is(w.Schema(s)) {
+			s = w.Schema(s)
 		}
-		v := w.value(num(77))
+		v := w.Value(num(77))
 		at := slices.IndexFunc(v.V, func(x api.Value) bool { return x.N == 77 })
 		v.V[at] = v
 		if value.Is(s, v) || value.None(s, v) {
-			t.Errorf("P4.1: in %s without end: a value", w.name)
+			t.Errorf("P4.1: in %s without end: a value", w.Name)
 		}
 	}
 }
@@ -576,11 +560,11 @@ func TestWithoutEnd(t *testing.T) {
 // TestFarWide: far more of each than there may be, right and wrong.
 func TestFarWide(t *testing.T) {
 	const n = 1 << 18
-	wide := api.Value{S: many(n), C: slices.Repeat([][]api.Tick{ticks(1, 1)}, n), V: make([]api.Value, n)}
+	wide := api.Value{S: kit.Texts(0, n), C: slices.Repeat([][]api.Tick{ticks(1, 1)}, n), V: make([]api.Value, n)}
 	for _, v := range []api.Value{wide, {S: wide.S}, {C: wide.C}, {V: wide.V}, {S: wide.S, V: wide.V}, {C: wide.C, V: wide.V}, set(strings.Repeat("x", n))} {
-		for _, c := range samples() {
-			if value.Is(c.s, v) || value.None(c.s, v) {
-				t.Errorf("P4.1: far wide: a value of %v", c.s)
+		for _, c := range kit.Samples() {
+			if value.Is(c.Schema, v) || value.None(c.Schema, v) {
+				t.Errorf("P4.1: far wide: a value of %v", c.Schema)
 			}
 		}
 		if !value.Same(v, v) || value.Same(v, none) || value.Size(v) != len(v.V)+1 {
@@ -607,7 +591,7 @@ func highest[K int | string](add func(tell func(K, uint64))) string {
 }
 
 func setSpellings() (out []spelling) {
-	for _, l := range lists([]string{"", "a", "ab", "b"}, 4) {
+	for _, l := range kit.Lists([]string{"", "a", "ab", "b"}, 4) {
 		out = append(out, spelling{set(l...), highest(func(tell func(string, uint64)) {
 			for _, s := range l {
 				tell(s, 1)
@@ -618,7 +602,7 @@ func setSpellings() (out []spelling) {
 }
 
 func mapSpellings() (out []spelling) {
-	for _, l := range lists([]api.Entry{{Key: "", Value: num(1)}, {Key: "", Value: none}, {Key: "a", Value: none}, {Key: "a", Value: num(1)}, {Key: "a", Value: num(2)}, {Key: "b", Value: num(1)}}, 3) {
+	for _, l := range kit.Lists([]api.Entry{{Key: "", Value: num(1)}, {Key: "", Value: none}, {Key: "a", Value: none}, {Key: "a", Value: num(1)}, {Key: "a", Value: num(2)}, {Key: "b", Value: num(1)}}, 3) {
 		var v api.Value
 		for _, e := range l {
 			v.S, v.V = append(v.S, e.Key), append(v.V, e.Value)
@@ -646,7 +630,7 @@ func lastSpellings() (out []spelling) {
 
 func clockSpellings() (out []spelling) {
 	out = append(out, spelling{none, fmt.Sprint(map[int]uint64{})})
-	for _, c := range lists([]api.Tick{{Who: 0, N: 1}, {Who: 1, N: 0}, {Who: 1, N: 1}, {Who: 1, N: 2}, {Who: 2, N: 1}}, 3) {
+	for _, c := range kit.Lists([]api.Tick{{Who: 0, N: 1}, {Who: 1, N: 0}, {Who: 1, N: 1}, {Who: 1, N: 2}, {Who: 2, N: 1}}, 3) {
 		out = append(out, spelling{clocks(c), highest(func(tell func(int, uint64)) {
 			for _, t := range c {
 				tell(t.Who, t.N)
@@ -657,17 +641,17 @@ func clockSpellings() (out []spelling) {
 }
 
 func causeSpellings() (out []spelling) {
-	var from []version
+	var from []kit.Version
 	for _, c := range [][]api.Tick{nil, ticks(1, 1), ticks(1, 2), ticks(2, 1), ticks(1, 1, 2, 1), ticks(1, 1, 2, 2), ticks(3, 1)} {
-		from = append(from, version{c, none}, version{c, num(1)})
+		from = append(from, at(c, none), at(c, num(1)))
 	}
-	for _, l := range lists(from, 3) {
+	for _, l := range kit.Lists(from, 3) {
 		n := map[string]uint64{}
 		for _, x := range l {
-			seen := func(o version) bool { return upTo(x.c, o.c) && !upTo(o.c, x.c) }
+			seen := func(o kit.Version) bool { return kit.UpTo(x.Clock, o.Clock) && !kit.UpTo(o.Clock, x.Clock) }
 			if !slices.ContainsFunc(l, seen) {
-				k := fmt.Sprint(x.c)
-				n[k] = max(n[k], x.v.N)
+				k := fmt.Sprint(x.Clock)
+				n[k] = max(n[k], x.Value.N)
 			}
 		}
 		out = append(out, spelling{cause(l...), fmt.Sprint(n)})
@@ -687,13 +671,13 @@ func TestOneForm(t *testing.T) {
 		{of(api.KClock), clockSpellings()},
 		{of(api.KCause, of(api.KMax)), causeSpellings()},
 	} {
-		for _, w := range append(wraps(), wrap{"nothing", func(s api.Schema) api.Schema { return s }, func(v api.Value) api.Value { return v }}) {
-			s := w.schema(c.s)
+		for _, w := range append(kit.Wraps(), kit.Wrap{Name: "nothing", Schema: func(s api.Schema) api.Schema { return s }, Value: func(v api.Value) api.Value { return v }}) {
+			s := w.Schema(c.s)
 			form := map[string]api.Value{}
 			for _, x := range c.l {
-				v := w.value(x.v)
+				v := w.Value(x.v)
 				if was, ok := form[x.sense]; value.Is(s, v) && ok {
-					t.Fatalf("P4.3: in %s: %v and %v are both right", w.name, was, v)
+					t.Fatalf("P4.3: in %s: %v and %v are both right", w.Name, was, v)
 				}
 				if value.Is(s, v) {
 					form[x.sense] = v
@@ -701,11 +685,11 @@ func TestOneForm(t *testing.T) {
 			}
 			for _, x := range c.l {
 				v, ok := form[x.sense]
-				if lost := w.name == "a map" && x.sense == c.l[0].sense; ok == lost { // a key of nothing has no form at all
-					t.Errorf("P4.3: in %s: %v: a right form: %v", w.name, x.v, ok)
+				if lost := w.Name == "a map" && x.sense == c.l[0].sense; ok == lost { // a key of nothing has no form at all
+					t.Errorf("P4.3: in %s: %v: a right form: %v", w.Name, x.v, ok)
 				}
-				if got := w.value(x.v); ok && value.Same(v, got) != value.Is(s, got) {
-					t.Errorf("P4.3: in %s: %v is right, and %v", w.name, v, got)
+				if got := w.Value(x.v); ok && value.Same(v, got) != value.Is(s, got) {
+					t.Errorf("P4.3: in %s: %v is right, and %v", w.Name, v, got)
 				}
 			}
 		}
@@ -715,8 +699,8 @@ func TestOneForm(t *testing.T) {
 // TestBottomIsNew: what Bottom answers shares nothing with another answer, or within itself.
 func TestBottomIsNew(t *testing.T) {
 	shared := of(api.KPair, of(api.KSet), of(api.KOr))
-	for _, s := range []api.Schema{shared, of(api.KPair, shared, shared), of(api.KPair, of(api.KPair, shared, shared), shared), full(6)} {
-		want := written(nothing(s))
+	for _, s := range []api.Schema{shared, of(api.KPair, shared, shared), of(api.KPair, of(api.KPair, shared, shared), shared), kit.Full(6)} {
+		want := kit.Written(nothing(s))
 		a, b := value.Bottom(s), value.Bottom(s)
 		seen := map[*api.Value]int{}
 		gather(a, seen)
@@ -727,7 +711,7 @@ func TestBottomIsNew(t *testing.T) {
 			}
 		}
 		overwrite(a)
-		if written(b) != want || written(value.Bottom(s)) != want {
+		if kit.Written(b) != want || kit.Written(value.Bottom(s)) != want {
 			t.Errorf("P4.2: Bottom of %v: an answer written over is another one", s)
 		}
 	}
@@ -753,22 +737,22 @@ func overwrite(v api.Value) {
 
 // told is what all calls answer of a value, by a schema, and of another value.
 func told(s api.Schema, v, o api.Value) string {
-	return fmt.Sprint(value.Is(s, v), value.None(s, v), value.Same(v, o), value.Same(o, v), value.Size(v), written(value.Bottom(s)))
+	return fmt.Sprint(value.Is(s, v), value.None(s, v), value.Same(v, o), value.Same(o, v), value.Size(v), kit.Written(value.Bottom(s)))
 }
 
 // TestHandedInStays: values and schemas, right and wrong, all the way in, and their spare room, are as they were; asked again, a call answers the same.
 func TestHandedInStays(t *testing.T) {
-	for _, c := range samples() {
-		for _, o := range append(samples(), sample{l: []api.Value{pair(none, none, none), keyed("b,a", none), clocks(nil, ticks(2, 0, 1, 1)), cause(version{ticks(1, 2), none}, version{ticks(1, 1), num(1)})}}) {
-			for _, x := range o.l {
-				s, v, w := roomySchema(c.s), roomy(x), roomy(x)
-				wasSchema, was := laidSchema(s), laid(v)
+	for _, c := range kit.Samples() {
+		for _, o := range append(kit.Samples(), kit.Sample{Values: []api.Value{pair(none, none, none), keyed("b,a", none), clocks(nil, ticks(2, 0, 1, 1)), cause(at(ticks(1, 2), none), at(ticks(1, 1), num(1)))}}) {
+			for _, x := range o.Values {
+				s, v, w := kit.RoomySchema(c.Schema), kit.Roomy(x), kit.Roomy(x)
+				wasSchema, was := kit.LaidSchema(s), kit.Laid(v)
 				first := told(s, v, w)
-				if laidSchema(s) != wasSchema || laid(v) != was || laid(w) != was {
-					t.Fatalf("P4.2: %v, %v were changed: %v, %v", c.s, x, s, v)
+				if kit.LaidSchema(s) != wasSchema || kit.Laid(v) != was || kit.Laid(w) != was {
+					t.Fatalf("P4.2: %v, %v were changed: %v, %v", c.Schema, x, s, v)
 				}
-				if again := told(s, v, w); first != again || first != told(c.s, x, x) {
-					t.Fatalf("P4.2: %v, %v: told two ways: %s, %s", c.s, x, first, again)
+				if again := told(s, v, w); first != again || first != told(c.Schema, x, x) {
+					t.Fatalf("P4.2: %v, %v: told two ways: %s, %s", c.Schema, x, first, again)
 				}
 			}
 		}
@@ -793,7 +777,7 @@ func TestNothingIsKept(t *testing.T) {
 		t.Errorf("P4.2: %v: told as it was", v)
 	}
 	s.In[0] = of(api.KMax)
-	if value.Is(s, o) || !value.Is(s, keyed("a", num(1))) || written(value.Bottom(s.In[0])) != written(none) || written(b) != written(pair(none, none)) {
+	if value.Is(s, o) || !value.Is(s, keyed("a", num(1))) || kit.Written(value.Bottom(s.In[0])) != kit.Written(none) || kit.Written(b) != kit.Written(pair(none, none)) {
 		t.Errorf("P4.2: by a schema that was changed: told as it was")
 	}
 }

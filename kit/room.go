@@ -1,0 +1,67 @@
+package kit
+
+import (
+	"slices"
+	"strconv"
+
+	"trefoil/api"
+)
+
+// spare is how much room Roomy leaves behind a list.
+const spare = 2
+
+// Roomy answers a copy of v whose lists, all the way in, have filled room behind them.
+func Roomy(v api.Value) api.Value {
+	var c [][]api.Tick
+	for _, x := range v.C {
+		c = append(c, room(x, api.Tick{Who: 77, N: 7}))
+	}
+	var l []api.Value
+	for _, x := range v.V {
+		l = append(l, Roomy(x))
+	}
+	return api.Value{N: v.N, M: v.M, S: room(v.S, "spare"), C: room(c, Ticks(77, 7)), V: room(l, Keyed("spare", Num(7)))}
+}
+
+// RoomySchema answers likewise of a schema.
+func RoomySchema(s api.Schema) api.Schema {
+	var in []api.Schema
+	for _, p := range s.In {
+		in = append(in, RoomySchema(p))
+	}
+	return api.Schema{Kind: s.Kind, In: room(in, Of(-77, Of(-7)))}
+}
+
+func room[T any](l []T, t T) []T {
+	return append(slices.Clone(l), slices.Repeat([]T{t}, spare)...)[:len(l)]
+}
+
+// Laid tells all that lies in the lists of what Roomy made, and in the room behind them.
+func Laid(v api.Value) string { return Written(opened(v)) }
+
+// LaidSchema tells likewise of what RoomySchema made.
+func LaidSchema(s api.Schema) string {
+	out := strconv.Itoa(s.Kind) + "("
+	for _, p := range s.In {
+		out += LaidSchema(p)
+	}
+	for _, p := range behind(s.In) {
+		out += " " + strconv.Itoa(p.Kind)
+	}
+	return out + ")"
+}
+
+// opened answers a copy of v whose lists have taken the room behind them in.
+func opened(v api.Value) api.Value {
+	o := api.Value{N: v.N, M: v.M, S: slices.Concat(v.S, behind(v.S))}
+	for _, c := range v.C {
+		o.C = append(o.C, slices.Concat(c, behind(c)))
+	}
+	for _, x := range v.V {
+		o.V = append(o.V, opened(x))
+	}
+	o.C, o.V = append(o.C, behind(v.C)...), append(o.V, behind(v.V)...)
+	return o
+}
+
+func behind[T any](l []T) []T { return l[len(l) : len(l)+spare] }
