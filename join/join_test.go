@@ -1,7 +1,6 @@
 package join_test
 
 import (
-	"errors"
 	"math"
 	"slices"
 	"strings"
@@ -154,8 +153,8 @@ func TestJoinDeepInside(t *testing.T) {
 
 // TestJoinOfFew holds any two of a few values of each schema against the document's words.
 func TestJoinOfFew(t *testing.T) {
-	for _, s := range schemas() {
-		l := few(s, 64)
+	for _, s := range kit.Schemas() {
+		l := kit.Few(s, 64)
 		if len(l) < 2 || !value.None(s, l[0]) {
 			t.Fatalf("%v: %d values", s, len(l))
 		}
@@ -183,8 +182,8 @@ func TestWhateverOrder(t *testing.T) {
 		}
 		return v
 	}
-	for _, s := range schemas() {
-		l := few(s, 12)
+	for _, s := range kit.Schemas() {
+		l := kit.Few(s, 12)
 		for _, a := range l {
 			for _, b := range l {
 				ab := put(s, a, b)
@@ -220,8 +219,8 @@ func orders(l []api.Value) [][]api.Value {
 
 // TestAllInWhateverOrder: All of four of a few in each order, and with some of them again.
 func TestAllInWhateverOrder(t *testing.T) {
-	for _, s := range schemas() {
-		l := few(s, 20)
+	for _, s := range kit.Schemas() {
+		l := kit.Few(s, 20)
 		for i := range l {
 			four := []api.Value{l[i], l[(3*i+1)%len(l)], l[(7*i+2)%len(l)], l[(11*i+3)%len(l)]}
 			want := value.Bottom(s)
@@ -276,60 +275,26 @@ func TestExample(t *testing.T) {
 
 // refused tells whether an answer is that error, and nothing beside it.
 func refused(v api.Value, err error, want api.Errno) bool {
-	var number api.Errno
-	return errors.Is(err, want) && errors.As(err, &number) && number == want && kit.Written(v) == kit.Written(none)
-}
-
-// A split makes values of the things from one number on, below another: of those that may be as many as MaxItems.
-type split struct {
-	name string
-	s    api.Schema
-	make func(from, to int) api.Value
-}
-
-func splits() []split {
-	return []split{
-		{"elements", of(api.KSet), func(from, to int) api.Value { return set(kit.Texts(from, to)...) }},
-		{"keys", of(api.KMap, of(api.KMax)), func(from, to int) api.Value {
-			return api.Value{S: kit.Texts(from, to), V: slices.Repeat([]api.Value{num(1)}, to-from)}
-		}},
-		{"ticks", of(api.KClock), func(from, to int) api.Value {
-			var c []api.Tick
-			for i := from; i < to; i++ {
-				c = append(c, api.Tick{Who: i, N: 1})
-			}
-			if len(c) == 0 {
-				return none
-			}
-			return clocks(c)
-		}},
-		{"versions", of(api.KCause, of(api.KMax)), func(from, to int) api.Value {
-			var l []kit.Version
-			for i := from; i < to; i++ {
-				l = append(l, at(ticks(i, 1), none))
-			}
-			return cause(l...)
-		}},
-	}
+	return kit.Tells(err, want) && kit.Written(v) == kit.Written(none)
 }
 
 // TestLarge: just as many as may be, and one more, however they are spread over the two, however deep they lie.
 func TestLarge(t *testing.T) {
 	const most = api.MaxItems
-	for _, c := range splits() {
-		for _, w := range append(kit.Wraps(), kit.Wrap{Name: "nothing", Schema: func(s api.Schema) api.Schema { return s }, Value: func(v api.Value) api.Value { return v }}) {
+	for _, c := range kit.Splits() {
+		for _, w := range append(kit.Wraps(), kit.Bare()) {
 			for _, by := range []struct{ to, from, end int }{{20, 20, most}, {most, 0, most}, {most, 1, most}, {1, 1, most}, {39, 1, most}, {20, 20, most + 1}, {1, 1, most + 1}, {most, 1, most + 1}, {most, most, most + 1}, {20, 10, most + 1}, {most, most, 2 * most}, {most, 20, 20 + most}} {
-				s, a, b, want := c.s, c.make(0, by.to), c.make(by.from, by.end), c.make(0, by.end)
+				s, a, b, want := c.Schema, c.Make(0, by.to), c.Make(by.from, by.end), c.Make(0, by.end)
 				for range 5 {
 					s, a, b, want = w.Schema(s), w.Value(a), w.Value(b), w.Value(want)
 					for _, l := range [][]api.Value{{a, b}, {b, a}} {
 						v, err := join.Join(s, l[0], l[1])
 						all, other := join.All(s, l)
 						if by.end > most && (!refused(v, err, api.ErrLarge) || !refused(all, other, api.ErrLarge)) {
-							t.Errorf("P5.1: %d %s in %s: %v, %v", by.end, c.name, w.Name, err, other)
+							t.Errorf("P5.1: %d %s in %s: %v, %v", by.end, c.Name, w.Name, err, other)
 						}
 						if by.end <= most && (err != nil || other != nil || kit.Written(v) != kit.Written(want) || kit.Written(all) != kit.Written(want)) {
-							t.Errorf("P5.1: %d %s in %s: %v, %v", by.end, c.name, w.Name, err, other)
+							t.Errorf("P5.1: %d %s in %s: %v, %v", by.end, c.Name, w.Name, err, other)
 						}
 					}
 				}
@@ -340,22 +305,14 @@ func TestLarge(t *testing.T) {
 
 // TestLargeBeside: one part that is too large among others that aren't, wherever it stands.
 func TestLargeBeside(t *testing.T) {
-	for _, c := range splits() {
-		half, rest, small := c.make(0, 20), c.make(20, api.MaxItems+1), c.make(0, 1)
-		three := of(api.KPair, c.s, of(api.KPair, c.s, c.s))
-		for i := range 3 {
-			a, b := []api.Value{small, small, small}, []api.Value{small, small, small}
-			a[i], b[i] = half, rest
-			for _, x := range []struct {
-				s    api.Schema
-				a, b api.Value
-			}{
-				{three, pair(a[0], pair(a[1], a[2])), pair(b[0], pair(b[1], b[2]))},
-				{of(api.KMap, c.s), keyed("a,b,c", a...), keyed("a,b,c", b...)},
-				{of(api.KCause, c.s), cause(at(ticks(1, 1), a[0]), at(ticks(2, 1), a[1]), at(ticks(3, 1), a[2])), cause(at(ticks(1, 1), b[0]), at(ticks(2, 1), b[1]), at(ticks(3, 1), b[2]))},
-			} {
-				if v, err := join.Join(x.s, x.a, x.b); !refused(v, err, api.ErrLarge) {
-					t.Errorf("P5.1: %s, part %d of %v: %v, %v", c.name, i, x.s, v, err)
+	for _, c := range kit.Splits() {
+		half, rest, small := c.Make(0, 20), c.Make(20, api.MaxItems+1), c.Make(0, 1)
+		for _, x := range kit.Threes() {
+			for i := range 3 {
+				a, b := []api.Value{small, small, small}, []api.Value{small, small, small}
+				a[i], b[i] = half, rest
+				if v, err := join.Join(x.Schema(c.Schema), x.Value(a), x.Value(b)); !refused(v, err, api.ErrLarge) {
+					t.Errorf("P5.1: %s, part %d of %s: %v, %v", c.Name, i, x.Name, v, err)
 				}
 			}
 		}
@@ -365,18 +322,12 @@ func TestLargeBeside(t *testing.T) {
 // TestNotLarge: what isn't there in the end isn't too large.
 func TestNotLarge(t *testing.T) {
 	causes, sets := of(api.KCause, of(api.KMax)), of(api.KCause, of(api.KSet))
-	versions := splits()[3].make
 	var seen []api.Tick
 	for i := range api.MaxItems {
 		seen = append(seen, api.Tick{Who: i, N: 1})
 	}
-	after := func(from, to int) api.Value {
-		var l []kit.Version
-		for i := from; i < to; i++ {
-			l = append(l, at(ticks(i, 2), none))
-		}
-		return cause(l...)
-	}
+	versions := func(from, to int) api.Value { return kit.Versions(from, to, 1) }
+	after := func(from, to int) api.Value { return kit.Versions(from, to, 2) }
 	half, rest := set(kit.Texts(0, 20)...), set(kit.Texts(20, api.MaxItems+1)...)
 	for i, c := range []joined{
 		{causes, versions(0, api.MaxItems), cause(at(seen, num(1))), cause(at(seen, num(1)))},
@@ -444,38 +395,17 @@ func TestNoSchema(t *testing.T) {
 	}
 }
 
-// wrong gives what is no value of s: with parts that are out of order, too many, too long, of another Kind, none.
-func wrong(s api.Schema) []api.Value {
-	long := strings.Repeat("x", api.MaxText+1)
-	l := []api.Value{
-		num(2), {N: 2, M: 1}, {M: 1}, set("b", "a"), set("a", "a"), set(long), set(kit.Texts(0, api.MaxItems+1)...), last(1, 1), last(0, 0, ""), last(1, 1, "a", "b"),
-		keyed("a", none), keyed("b,a", num(1), num(1)), keyed("a,b", num(1)), keyed(long, num(1)), pair(none), pair(none, none, none), pair(num(1), num(1)),
-		clocks(nil), clocks(ticks(1, 0)), clocks(ticks(2, 1, 1, 1)), clocks(ticks(1, 1), ticks(2, 1)), cause(at(ticks(1, 1), none), at(ticks(1, 2), none)), cause(at(ticks(2, 1), none), at(ticks(1, 1), none)), cause(at(ticks(1, 1), api.Value{M: 5})), none,
-	}
-	for _, c := range kit.Samples() {
-		l = append(l, c.Values...)
-	}
-	return slices.DeleteFunc(l, func(v api.Value) bool { return value.Is(s, v) })
-}
-
 // TestWrong: one that isn't of the schema, on either side, on both, wherever it stands in a row; and deep inside.
 func TestWrong(t *testing.T) {
-	for _, c := range kit.Samples() {
-		good := c.Values[len(c.Values)-1]
-		for _, w := range append(kit.Wraps(), kit.Wrap{Name: "nothing", Schema: func(s api.Schema) api.Schema { return s }, Value: func(v api.Value) api.Value { return v }}) {
-			s, right := w.Schema(c.Schema), w.Value(good)
-			for _, x := range wrong(c.Schema) {
-				bad := w.Value(x)
-				for _, l := range [][2]api.Value{{bad, right}, {right, bad}, {bad, bad}, {bad, value.Bottom(s)}, {value.Bottom(s), bad}} {
-					if v, err := join.Join(s, l[0], l[1]); !refused(v, err, api.ErrType) {
-						t.Fatalf("P5.1: in %s: Join(%v, %v, %v): %v, %v", w.Name, s, l[0], l[1], v, err)
-					}
-				}
-				for i := range 4 {
-					if v, err := join.All(s, slices.Insert([]api.Value{right, right, right}, i, bad)); !refused(v, err, api.ErrType) {
-						t.Fatalf("P5.1: in %s: All by %v, %v at %d: %v, %v", w.Name, s, bad, i, v, err)
-					}
-				}
+	for m := range kit.Misfits() {
+		for _, l := range m.Twos() {
+			if v, err := join.Join(m.Schema, l[0], l[1]); !refused(v, err, api.ErrType) {
+				t.Fatalf("P5.1: Join(%v, %v, %v): %v, %v", m.Schema, l[0], l[1], v, err)
+			}
+		}
+		for i := range 4 {
+			if v, err := join.All(m.Schema, slices.Insert([]api.Value{m.Right, m.Right, m.Right}, i, m.Bad)); !refused(v, err, api.ErrType) {
+				t.Fatalf("P5.1: All by %v, %v at %d: %v, %v", m.Schema, m.Bad, i, v, err)
 			}
 		}
 	}
@@ -508,12 +438,9 @@ func TestFirstError(t *testing.T) {
 
 // TestFar: far deeper, far wider than a value may be; and as wide as a schema can be.
 func TestFar(t *testing.T) {
-	deep, wide := none, set(kit.Texts(0, 100000)...)
-	for range 1<<16 - 1 {
-		deep = pair(deep)
-	}
+	far := kit.Far()
 	for _, c := range kit.Samples() {
-		for _, x := range []api.Value{deep, wide, pair(deep, deep), {V: make([]api.Value, 100000)}} {
+		for _, x := range far {
 			if v, err := join.Join(c.Schema, x, c.Values[0]); !refused(v, err, api.ErrType) {
 				t.Errorf("P5.1: by %v: %v", c.Schema, err)
 			}
@@ -569,8 +496,8 @@ func answers(t *testing.T, s api.Schema, l []api.Value) []api.Value {
 
 // TestHandedInStays: values, rows of them and schemas, all the way in, and the room behind them, are as they were; what is answered lies nowhere else, not in another answer, no two of its lists in one place.
 func TestHandedInStays(t *testing.T) {
-	for _, plain := range schemas() {
-		l := few(plain, 12)
+	for _, plain := range kit.Schemas() {
+		l := kit.Few(plain, 12)
 		for _, a := range l {
 			for _, b := range l {
 				s, handed := kit.RoomySchema(plain), kit.Roomy(pair(a, b, a))
@@ -609,14 +536,14 @@ func TestRefusedStays(t *testing.T) {
 		}
 	}
 	for _, c := range kit.Samples() {
-		for _, x := range wrong(c.Schema) {
+		for _, x := range kit.Wrong(c.Schema) {
 			try(c.Schema, x, c.Values[1], api.ErrType)
 			try(c.Schema, c.Values[1], x, api.ErrType)
 		}
 	}
-	for _, c := range splits() {
+	for _, c := range kit.Splits() {
 		for _, w := range kit.Wraps() {
-			try(w.Schema(c.s), w.Value(c.make(0, 20)), w.Value(c.make(20, 41)), api.ErrLarge)
+			try(w.Schema(c.Schema), w.Value(c.Make(0, 20)), w.Value(c.Make(20, 41)), api.ErrLarge)
 		}
 	}
 	for _, s := range kit.WrongSchemas()[:19] {

@@ -1,6 +1,7 @@
 package kit_test
 
 import (
+	"slices"
 	"testing"
 
 	"trefoil/api"
@@ -31,6 +32,80 @@ func TestSamples(t *testing.T) {
 	for _, s := range kit.WrongSchemas() {
 		if schema.Is(s) {
 			t.Errorf("a schema: %v", s)
+		}
+	}
+}
+
+// TestFew: as many as asked for, each once, each of its schema, nothing first; and of what is wrong none is of it.
+func TestFew(t *testing.T) {
+	for _, s := range kit.Schemas() {
+		for _, n := range []int{1, 5, 64} {
+			l, told := kit.Few(s, n), map[string]int{}
+			for _, v := range l {
+				if told[kit.Written(v)]++; !value.Is(s, v) {
+					t.Errorf("%v is no value of %v", v, s)
+				}
+			}
+			if len(l) > n || len(told) != len(l) || !value.None(s, l[0]) {
+				t.Errorf("%d of %v: %v", n, s, l)
+			}
+		}
+		bad := kit.Wrong(s)
+		if len(bad) < 30 || slices.ContainsFunc(bad, func(v api.Value) bool { return value.Is(s, v) }) {
+			t.Errorf("wrong ones of %v: %v", s, bad)
+		}
+	}
+}
+
+// TestMisfits: one is of its schema, the other one isn't; and none is that is far too deep, or too wide.
+func TestMisfits(t *testing.T) {
+	n, far := 0, kit.Far()
+	for m := range kit.Misfits() {
+		if n++; !value.Is(m.Schema, m.Right) || value.Is(m.Schema, m.Bad) {
+			t.Errorf("%v, %v of %v", m.Right, m.Bad, m.Schema)
+		}
+	}
+	if n < 2000 {
+		t.Errorf("only %d", n)
+	}
+	for _, s := range kit.Schemas() {
+		if slices.ContainsFunc(far, func(v api.Value) bool { return value.Is(s, v) }) {
+			t.Errorf("far, but of %v", s)
+		}
+	}
+}
+
+// TestSplits: as many as may be is right, one more isn't.
+func TestSplits(t *testing.T) {
+	for _, c := range kit.Splits() {
+		for from := range 3 {
+			if !value.None(c.Schema, c.Make(from, from)) || !value.Is(c.Schema, c.Make(from, from+api.MaxItems)) || value.Is(c.Schema, c.Make(from, from+api.MaxItems+1)) {
+				t.Errorf("%s from %d on", c.Name, from)
+			}
+		}
+	}
+}
+
+// TestNesting: what is nested around a value, or around three of them, is right as they are, and wrong as one of them is.
+func TestNesting(t *testing.T) {
+	for _, c := range kit.Splits() {
+		right, wrong := c.Make(0, 1), c.Make(0, api.MaxItems+1)
+		for _, w := range append(kit.Wraps(), kit.Bare()) {
+			if s := w.Schema(c.Schema); !value.Is(s, w.Value(right)) || value.Is(s, w.Value(wrong)) {
+				t.Errorf("%s in %s", c.Name, w.Name)
+			}
+		}
+		for _, x := range kit.Threes() {
+			l := []api.Value{right, right, right}
+			if !value.Is(x.Schema(c.Schema), x.Value(l)) {
+				t.Errorf("three %s in %s", c.Name, x.Name)
+			}
+			for i := range l {
+				l := slices.Clone(l)
+				if l[i] = wrong; value.Is(x.Schema(c.Schema), x.Value(l)) {
+					t.Errorf("three %s in %s, of which one is wrong", c.Name, x.Name)
+				}
+			}
 		}
 	}
 }

@@ -36,6 +36,18 @@ func room[T any](l []T, t T) []T {
 	return append(slices.Clone(l), slices.Repeat([]T{t}, spare)...)[:len(l)]
 }
 
+// Emptied answers v with an empty list wherever it has none.
+func Emptied(v api.Value) api.Value {
+	e := api.Value{N: v.N, M: v.M, S: append([]string{}, v.S...), C: [][]api.Tick{}, V: []api.Value{}}
+	for _, c := range v.C {
+		e.C = append(e.C, append([]api.Tick{}, c...))
+	}
+	for _, x := range v.V {
+		e.V = append(e.V, Emptied(x))
+	}
+	return e
+}
+
 // Laid tells all that lies in the lists of what Roomy made, and in the room behind them.
 func Laid(v api.Value) string { return Written(opened(v)) }
 

@@ -57,21 +57,6 @@ func Full(depth int) api.Schema {
 	return s
 }
 
-// WrongSchemas gives what is no schema.
-func WrongSchemas() []api.Schema {
-	most := Of(api.KMax)
-	deep := most
-	for range api.MaxDepth {
-		deep = Of(api.KMap, deep)
-	}
-	return []api.Schema{
-		{}, Of(-1), Of(api.KCause + 1), Of(api.KMax, most), Of(api.KOr, most), Of(api.KSet, most), Of(api.KLast, most), Of(api.KClock, most),
-		Of(api.KMap), Of(api.KMap, most, most), Of(api.KCause), Of(api.KCause, most, most), Of(api.KPair), Of(api.KPair, most), Of(api.KPair, most, most, most),
-		Of(api.KMap, Of(0)), Of(api.KPair, most, Of(0)), Of(api.KPair, Of(api.KPair, most), most), Of(api.KCause, Of(api.KMap)),
-		deep, Full(api.MaxDepth + 1),
-	}
-}
-
 // A Wrap puts a schema, and a value of it, into others.
 type Wrap struct {
 	Name   string
@@ -86,5 +71,27 @@ func Wraps() []Wrap {
 		{"a pair's first", func(s api.Schema) api.Schema { return Of(api.KPair, s, or) }, func(v api.Value) api.Value { return Pair(v, Num(1)) }},
 		{"a pair's second", func(s api.Schema) api.Schema { return Of(api.KPair, or, s) }, func(v api.Value) api.Value { return Pair(Num(0), v) }},
 		{"a cause", func(s api.Schema) api.Schema { return Of(api.KCause, s) }, func(v api.Value) api.Value { return Cause(At(Ticks(1, 1), v)) }},
+	}
+}
+
+// Bare puts nothing around them.
+func Bare() Wrap {
+	return Wrap{"nothing", func(s api.Schema) api.Schema { return s }, func(v api.Value) api.Value { return v }}
+}
+
+// A Three puts a schema, and three values of it, into one.
+type Three struct {
+	Name   string
+	Schema func(api.Schema) api.Schema
+	Value  func([]api.Value) api.Value
+}
+
+func Threes() []Three {
+	return []Three{
+		{"pairs", func(s api.Schema) api.Schema { return Of(api.KPair, s, Of(api.KPair, s, s)) }, func(l []api.Value) api.Value { return Pair(l[0], Pair(l[1:]...)) }},
+		{"a map", func(s api.Schema) api.Schema { return Of(api.KMap, s) }, func(l []api.Value) api.Value { return Keyed("a,b,c", l...) }},
+		{"a cause", func(s api.Schema) api.Schema { return Of(api.KCause, s) }, func(l []api.Value) api.Value {
+			return Cause(At(Ticks(1, 1), l[0]), At(Ticks(2, 1), l[1]), At(Ticks(3, 1), l[2]))
+		}},
 	}
 }

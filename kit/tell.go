@@ -1,6 +1,7 @@
 package kit
 
 import (
+	"errors"
 	"strconv"
 	"strings"
 
@@ -35,4 +36,10 @@ func write(b *strings.Builder, v api.Value) {
 func counted[T any](b *strings.Builder, l []T) []T {
 	b.WriteString(";" + strconv.Itoa(len(l)))
 	return l
+}
+
+// Tells tells whether err is that error, both ways in which one asks.
+func Tells(err error, want api.Errno) bool {
+	var number api.Errno
+	return errors.Is(err, want) && errors.As(err, &number) && number == want
 }

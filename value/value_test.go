@@ -456,23 +456,11 @@ func TestSameOfSamples(t *testing.T) {
 	}
 }
 
-// emptied answers v with an empty list wherever it has none.
-func emptied(v api.Value) api.Value {
-	e := api.Value{N: v.N, M: v.M, S: append([]string{}, v.S...), C: [][]api.Tick{}, V: []api.Value{}}
-	for _, c := range v.C {
-		e.C = append(e.C, append([]api.Tick{}, c...))
-	}
-	for _, x := range v.V {
-		e.V = append(e.V, emptied(x))
-	}
-	return e
-}
-
 // TestNoneAndEmpty: a list that isn't there and one of nothing are the same, all the way in.
 func TestNoneAndEmpty(t *testing.T) {
 	for _, c := range kit.Samples() {
 		for i, v := range c.Values {
-			e := emptied(v)
+			e := kit.Emptied(v)
 			if !value.Same(v, e) || !value.Same(e, v) || value.Size(e) != value.Size(v) {
 				t.Errorf("P4.3: %#v and %#v aren't the same", v, e)
 			}
@@ -671,7 +659,7 @@ func TestOneForm(t *testing.T) {
 		{of(api.KClock), clockSpellings()},
 		{of(api.KCause, of(api.KMax)), causeSpellings()},
 	} {
-		for _, w := range append(kit.Wraps(), kit.Wrap{Name: "nothing", Schema: func(s api.Schema) api.Schema { return s }, Value: func(v api.Value) api.Value { return v }}) {
+		for _, w := range append(kit.Wraps(), kit.Bare()) {
 			s := w.Schema(c.s)
 			form := map[string]api.Value{}
 			for _, x := range c.l {
