@@ -25,6 +25,8 @@ var (
 	clocks = kit.Clocks
 	at     = kit.At
 	cause  = kit.Cause
+
+	refused = kit.Refused
 )
 
 // together says what Join is to answer of values of s, by the document's words, one by one, with no call of layers 1, 3 and 5; however large it is.

@@ -273,11 +273,6 @@ func TestExample(t *testing.T) {
 	}
 }
 
-// refused tells whether an answer is that error, and nothing beside it.
-func refused(v api.Value, err error, want api.Errno) bool {
-	return kit.Tells(err, want) && kit.Written(v) == kit.Written(none)
-}
-
 // TestLarge: just as many as may be, and one more, however they are spread over the two, however deep they lie.
 func TestLarge(t *testing.T) {
 	const most = api.MaxItems
@@ -461,24 +456,6 @@ func TestFar(t *testing.T) {
 	}
 }
 
-// places gives where v's lists lie, all the way in, and the room behind them.
-func places(v api.Value) []any {
-	var out []any
-	for i := range v.S[:cap(v.S)] {
-		out = append(out, &v.S[:cap(v.S)][i])
-	}
-	for i, c := range v.C[:cap(v.C)] {
-		out = append(out, &v.C[:cap(v.C)][i])
-		for k := range c[:cap(c)] {
-			out = append(out, &c[:cap(c)][k])
-		}
-	}
-	for i, x := range v.V[:cap(v.V)] {
-		out = append(append(out, &v.V[:cap(v.V)][i]), places(x)...)
-	}
-	return out
-}
-
 // answers are what the calls tell of these values, each twice.
 func answers(t *testing.T, s api.Schema, l []api.Value) []api.Value {
 	var out []api.Value
@@ -507,11 +484,11 @@ func TestHandedInStays(t *testing.T) {
 					t.Fatalf("P5.1: %v, %v of %v were changed", a, b, plain)
 				}
 				seen := map[any]int{}
-				for _, p := range places(handed) {
+				for _, p := range kit.Places(handed) {
 					seen[p] = 1
 				}
 				for _, v := range got {
-					for _, p := range places(v) {
+					for _, p := range kit.Places(v) {
 						if seen[p]++; seen[p] > 1 {
 							t.Fatalf("P5.1: %v, %v of %v: an answer lies where something else does", a, b, plain)
 						}

@@ -21,6 +21,15 @@ func Schemas() []api.Schema {
 
 // Few answers at most n values of s, the first of them nothing: of the Kinds that have no value in them all small ones.
 func Few(s api.Schema, n int) []api.Value {
+	l := small(s, Few, fewClocks)
+	return some(slices.DeleteFunc(l, func(v api.Value) bool { return !value.Is(s, v) }), n)
+}
+
+// Loose answers at most n that have the parts of a value of s, but in whatever order, some of it twice, or nothing. The first of them is nothing.
+func Loose(s api.Schema, n int) []api.Value { return some(small(s, Loose, looseClocks), n) }
+
+// small makes what few and loose ones are taken from: of what in answers, with those clocks.
+func small(s api.Schema, in func(api.Schema, int) []api.Value, clocks func() [][]api.Tick) []api.Value {
 	var none api.Value
 	var l []api.Value
 	switch s.Kind {
@@ -33,28 +42,28 @@ func Few(s api.Schema, n int) []api.Value {
 			l = append(l, Set(x...))
 		}
 	case api.KLast:
-		l = fewLasts()
+		l = smallLasts()
 	case api.KClock:
 		l = append(l, none)
-		for _, c := range fewClocks() {
+		for _, c := range clocks() {
 			l = append(l, Clocks(c))
 		}
 	case api.KPair:
-		for _, a := range Few(s.In[0], 6) {
-			for _, b := range Few(s.In[1], 6) {
+		for _, a := range in(s.In[0], 6) {
+			for _, b := range in(s.In[1], 6) {
 				l = append(l, Pair(a, b))
 			}
 		}
 	case api.KMap:
-		l = fewMaps(Few(s.In[0], 4))
+		l = smallMaps(in(s.In[0], 4))
 	case api.KCause:
-		l = fewCauses(Few(s.In[0], 3))
+		l = smallCauses(in(s.In[0], 3), some(clocks(), 9))
 	}
-	return some(slices.DeleteFunc(l, func(v api.Value) bool { return !value.Is(s, v) }), n)
+	return l
 }
 
-func fewLasts() []api.Value {
-	l := []api.Value{{}}
+func smallLasts() []api.Value {
+	var l []api.Value
 	for _, n := range []uint64{0, 1, 1<<64 - 1} {
 		for m := range uint64(3) {
 			for _, s := range []string{"", "a", "b", "ab"} {
@@ -62,6 +71,7 @@ func fewLasts() []api.Value {
 			}
 		}
 	}
+	l[0] = api.Value{} // nothing has no text
 	return l
 }
 
@@ -80,7 +90,12 @@ func fewClocks() [][]api.Tick {
 	return l
 }
 
-func fewMaps(in []api.Value) []api.Value {
+// looseClocks gives all lists of at most three of a few ticks, the empty one first.
+func looseClocks() [][]api.Tick {
+	return Lists(Ticks(0, 0, 0, 1, 0, 2, 9, 0, 9, 1, 18, 2), 3)
+}
+
+func smallMaps(in []api.Value) []api.Value {
 	var from []api.Entry
 	for _, k := range []string{"", "a", "b"} {
 		for _, v := range in {
@@ -98,9 +113,9 @@ func fewMaps(in []api.Value) []api.Value {
 	return l
 }
 
-func fewCauses(in []api.Value) []api.Value {
+func smallCauses(in []api.Value, clocks [][]api.Tick) []api.Value {
 	var from []Version
-	for i, c := range some(fewClocks(), 9) {
+	for i, c := range clocks {
 		from = append(from, At(c, in[i%len(in)]), At(c, in[(i+1)%len(in)]))
 	}
 	var l []api.Value

@@ -57,6 +57,24 @@ func TestFew(t *testing.T) {
 	}
 }
 
+// TestLoose: as many as asked for, nothing first; of a Kind that has rows most aren't values yet.
+func TestLoose(t *testing.T) {
+	for _, s := range kit.Schemas() {
+		for _, n := range []int{1, 5, 1000} {
+			l, right := kit.Loose(s, n), 0
+			for _, v := range l {
+				if value.Is(s, v) {
+					right++
+				}
+			}
+			rows := s.Kind == api.KSet || s.Kind == api.KMap || s.Kind == api.KClock || s.Kind == api.KCause
+			if len(l) > n || !value.None(s, l[0]) || n == 1000 && rows && right > len(l)/2 {
+				t.Errorf("%d of %v: %d, right %d", n, s, len(l), right)
+			}
+		}
+	}
+}
+
 // TestMisfits: one is of its schema, the other one isn't; and none is that is far too deep, or too wide.
 func TestMisfits(t *testing.T) {
 	n, far := 0, kit.Far()
@@ -107,6 +125,26 @@ func TestNesting(t *testing.T) {
 				}
 			}
 		}
+	}
+}
+
+// TestPlaces: all lists, all the way in, and the room behind them; two that share something share a place.
+func TestPlaces(t *testing.T) {
+	l, c := []string{"a", "b", "spare"}, []api.Tick{{Who: 1, N: 1}, {}}
+	v := api.Value{S: l[:2], C: [][]api.Tick{c[:1]}, V: []api.Value{{S: l[2:]}, {C: [][]api.Tick{c[1:]}}}}
+	seen := map[any]int{}
+	for _, p := range kit.Places(v) {
+		seen[p]++
+	}
+	if len(seen) != 9 || seen[&l[0]] != 1 || seen[&l[2]] != 2 || seen[&c[0]] != 1 || seen[&c[1]] != 2 || seen[&v.C[0]] != 1 || seen[&v.V[1]] != 1 {
+		t.Errorf("%d places: %v", len(seen), seen)
+	}
+}
+
+// TestRefused: that error, and nothing beside it.
+func TestRefused(t *testing.T) {
+	if !kit.Refused(api.Value{}, api.ErrType, api.ErrType) || kit.Refused(kit.Num(1), api.ErrType, api.ErrType) || kit.Refused(api.Value{}, api.ErrLarge, api.ErrType) || kit.Refused(api.Value{}, nil, api.ErrType) {
+		t.Error("not told")
 	}
 }
 

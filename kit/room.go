@@ -77,3 +77,21 @@ func opened(v api.Value) api.Value {
 }
 
 func behind[T any](l []T) []T { return l[len(l) : len(l)+spare] }
+
+// Places gives where v's lists lie, all the way in, and the room behind them.
+func Places(v api.Value) []any {
+	var out []any
+	for i := range v.S[:cap(v.S)] {
+		out = append(out, &v.S[:cap(v.S)][i])
+	}
+	for i, c := range v.C[:cap(v.C)] {
+		out = append(out, &v.C[:cap(v.C)][i])
+		for k := range c[:cap(c)] {
+			out = append(out, &c[:cap(c)][k])
+		}
+	}
+	for i, x := range v.V[:cap(v.V)] {
+		out = append(append(out, &v.V[:cap(v.V)][i]), Places(x)...)
+	}
+	return out
+}

@@ -43,3 +43,8 @@ func Tells(err error, want api.Errno) bool {
 	var number api.Errno
 	return errors.Is(err, want) && errors.As(err, &number) && number == want
 }
+
+// Refused tells whether an answer is that error, and nothing beside it.
+func Refused(v api.Value, err error, want api.Errno) bool {
+	return Tells(err, want) && Written(v) == Written(api.Value{})
+}
