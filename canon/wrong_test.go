@@ -394,22 +394,6 @@ func TestFar(t *testing.T) {
 	}
 }
 
-// scribble writes over all that lies at these places.
-func scribble(l []any) {
-	for _, p := range l {
-		switch x := p.(type) {
-		case *string:
-			*x = "scribbled"
-		case *api.Tick:
-			*x = api.Tick{Who: -5, N: 5}
-		case *[]api.Tick:
-			*x = ticks(-7, 7)
-		case *api.Value:
-			*x = api.Value{N: 9, M: 9}
-		}
-	}
-}
-
 // answers are what the calls tell of v, each twice, and the errors.
 func answers(s api.Schema, v api.Value) ([]api.Value, []error) {
 	var out []api.Value
@@ -429,24 +413,19 @@ func answers(s api.Schema, v api.Value) ([]api.Value, []error) {
 func TestHandedInStays(t *testing.T) {
 	try := func(plain api.Schema, v api.Value) {
 		s, handed := kit.RoomySchema(plain), kit.Roomy(v)
-		was, seen := kit.LaidSchema(s)+kit.Laid(handed), map[any]int{}
+		was := kit.LaidSchema(s) + kit.Laid(handed)
 		got, errs := answers(s, handed)
-		for _, p := range kit.Places(handed) {
-			seen[p]++
+		if !kit.Apart(handed, got...) {
+			t.Fatalf("P7.1: %v of %v: an answer lies where something else does", v, plain)
 		}
 		for i, x := range got {
-			for _, p := range kit.Places(x) {
-				if seen[p]++; seen[p] > 1 {
-					t.Fatalf("P7.1: %v of %v: an answer lies where something else does", v, plain)
-				}
-			}
 			if n := len(got) / 2; kit.Written(x) != kit.Written(got[i%n]) || errs[i] != errs[i%n] {
 				t.Fatalf("P7.1: %v of %v: told two ways: %v, %v", v, plain, x, got[i%n])
 			}
 		}
 		told := kit.Written(pair(got...))
 		for _, x := range got {
-			scribble(kit.Places(x))
+			kit.Scribble(x)
 		}
 		if kit.LaidSchema(s)+kit.Laid(handed) != was {
 			t.Fatalf("P7.1: %v of %v were changed", v, plain)
@@ -508,11 +487,8 @@ func TestSharedLists(t *testing.T) {
 	if err != nil || kit.Written(got) != kit.Written(pair(want, want)) {
 		t.Fatalf("P7.1: %v, %v", got, err)
 	}
-	seen := map[any]int{}
-	for _, p := range kit.Places(got) {
-		if seen[p]++; seen[p] > 1 {
-			t.Error("P7.1: two lists of an answer lie in one place")
-		}
+	if !kit.Apart(none, got) {
+		t.Error("P7.1: two lists of an answer lie in one place")
 	}
 	if !slices.Equal(l, []string{"c", "a", "b"}) || !slices.Equal(c, ticks(2, 1, 1, 1)) {
 		t.Errorf("P7.1: changed: %v, %v", l, c)

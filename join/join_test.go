@@ -483,16 +483,8 @@ func TestHandedInStays(t *testing.T) {
 				if kit.LaidSchema(s)+kit.Laid(handed) != was {
 					t.Fatalf("P5.1: %v, %v of %v were changed", a, b, plain)
 				}
-				seen := map[any]int{}
-				for _, p := range kit.Places(handed) {
-					seen[p] = 1
-				}
-				for _, v := range got {
-					for _, p := range kit.Places(v) {
-						if seen[p]++; seen[p] > 1 {
-							t.Fatalf("P5.1: %v, %v of %v: an answer lies where something else does", a, b, plain)
-						}
-					}
+				if !kit.Apart(handed, got...) {
+					t.Fatalf("P5.1: %v, %v of %v: an answer lies where something else does", a, b, plain)
 				}
 			}
 		}

@@ -5,6 +5,7 @@ import (
 	"testing"
 
 	"trefoil/api"
+	"trefoil/join"
 	"trefoil/kit"
 	"trefoil/schema"
 	"trefoil/value"
@@ -138,6 +139,57 @@ func TestPlaces(t *testing.T) {
 	}
 	if len(seen) != 9 || seen[&l[0]] != 1 || seen[&l[2]] != 2 || seen[&c[0]] != 1 || seen[&c[1]] != 2 || seen[&v.C[0]] != 1 || seen[&v.V[1]] != 1 {
 		t.Errorf("%d places: %v", len(seen), seen)
+	}
+}
+
+// TestApart: of values that share something, all the way in or in the room behind, it is told, and not of others; what is scribbled over is another one.
+func TestApart(t *testing.T) {
+	for _, c := range kit.Samples() {
+		for i, v := range c.Values {
+			lists := len(v.S)+len(v.C)+len(v.V) > 0
+			given, one, other := kit.Roomy(v), cloned(v), cloned(v)
+			if !kit.Apart(given, one, other) || !kit.Apart(given) || kit.Apart(given, one, other, one) == lists || kit.Apart(one, other, one) == lists || kit.Apart(given, kit.Pair(one, other, one)) == lists {
+				t.Errorf("%d of %v: not told whether it is apart", i, c.Schema)
+			}
+			was := kit.Laid(given)
+			if kit.Scribble(one); kit.Laid(given) != was || kit.Written(other) != kit.Written(v) || lists && kit.Written(one) == kit.Written(v) {
+				t.Errorf("%d of %v: not scribbled over, or something else", i, c.Schema)
+			}
+		}
+	}
+	l, c := []string{"a", "b"}, kit.Ticks(1, 1, 2, 1)
+	if kit.Scribble(api.Value{S: l[:0]}); l[0] == "a" || l[1] == "b" {
+		t.Error("the room behind a list: not scribbled over")
+	}
+	if kit.Apart(api.Value{S: l[:1]}, api.Value{S: l[1:]}) || kit.Apart(api.Value{}, kit.Pair(kit.Clocks(c[:1]), kit.Cause(kit.At(c[1:], kit.Num(1))))) || !kit.Apart(api.Value{S: l[:1:1]}, api.Value{S: l[1:]}) {
+		t.Error("pieces of one list: not told whether they are apart")
+	}
+}
+
+// cloned answers a copy of v, all the way in.
+func cloned(v api.Value) api.Value {
+	out := api.Value{N: v.N, M: v.M, S: slices.Clone(v.S)}
+	for _, c := range v.C {
+		out.C = append(out.C, slices.Clone(c))
+	}
+	for _, x := range v.V {
+		out.V = append(out.V, cloned(x))
+	}
+	return out
+}
+
+// TestLeq: what two are together is the other one.
+func TestLeq(t *testing.T) {
+	for _, s := range kit.Schemas() {
+		l := kit.Few(s, 24)
+		for _, a := range l {
+			for _, b := range l {
+				both, err := join.Join(s, a, b)
+				if err != nil || kit.Leq(s, a, b) != (kit.Written(both) == kit.Written(b)) {
+					t.Fatalf("%v, %v of %v: %v, together %v, %v", a, b, s, kit.Leq(s, a, b), both, err)
+				}
+			}
+		}
 	}
 }
 

@@ -95,3 +95,36 @@ func Places(v api.Value) []any {
 	}
 	return out
 }
+
+// Apart tells whether of all these no two lists, all the way in, lie in one place, the room behind them included, and none lies where one of given does.
+func Apart(given api.Value, l ...api.Value) bool {
+	seen := map[any]bool{}
+	for _, p := range Places(given) {
+		seen[p] = true
+	}
+	for _, v := range l {
+		for _, p := range Places(v) {
+			if seen[p] {
+				return false
+			}
+			seen[p] = true
+		}
+	}
+	return true
+}
+
+// Scribble writes over all that lies in v's lists, all the way in, and in the room behind them.
+func Scribble(v api.Value) {
+	for _, p := range Places(v) {
+		switch x := p.(type) {
+		case *string:
+			*x = "scribbled"
+		case *api.Tick:
+			*x = api.Tick{Who: -5, N: 5}
+		case *[]api.Tick:
+			*x = Ticks(-7, 7)
+		case *api.Value:
+			*x = api.Value{N: 9, M: 9}
+		}
+	}
+}
